@@ -121,3 +121,40 @@ func TestGcdOfFibonacciNumbers(t *testing.T) {
 		t.Errorf("Gcd of their multiples is %v", got)
 	}
 }
+
+// P1.4: numbers whose products with the Fibonacci numbers, the coefficients of Euclid's algorithm here, carry between words.
+func TestGcdWithCarries(t *testing.T) {
+	word := new(big.Int).Lsh(big.NewInt(1), 64)
+	modulus := new(big.Int).Mul(word, word)
+	divisor := toBig(api.Nat{3, 1, 4, 1, 5, 9, 2, 6, 5})
+	inverse := new(big.Int).ModInverse(divisor, modulus)
+
+	// multiple returns a multiple of the divisor with these highest and lowest bits.
+	multiple := func(high uint64, low *big.Int) *big.Int {
+		a := new(big.Int).Mul(low, inverse)
+		a.Mod(a, modulus)
+		a.Add(a, new(big.Int).Mul(new(big.Int).SetUint64(high), modulus))
+		return a.Mul(a, divisor)
+	}
+
+	fibonacci := []uint64{1, 1}
+	for k := 1; k < 92; k++ {
+		fibonacci = append(fibonacci, fibonacci[k]+fibonacci[k-1])
+	}
+	for _, f := range fibonacci[:48] {
+		if f%2 == 0 {
+			continue
+		}
+		// f times the second word is -1, and the first product carries something to it.
+		second := new(big.Int).ModInverse(new(big.Int).SetUint64(f), word)
+		low := new(big.Int).Mul(second.Sub(word, second), word)
+		low.Add(low, new(big.Int).Sub(word, big.NewInt(1)))
+		for _, other := range []*big.Int{low, big.NewInt(1)} {
+			for _, x := range [][2]*big.Int{{low, other}, {other, low}} {
+				a, b := multiple(fibonacci[92], x[0]), multiple(fibonacci[91], x[1])
+				want := new(big.Int).GCD(nil, nil, a, b)
+				expect(t, "Gcd", natural.Gcd(fromBig(a), fromBig(b)), want)
+			}
+		}
+	}
+}
