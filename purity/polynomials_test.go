@@ -6,6 +6,8 @@ import (
 	"geoprover/api"
 	"geoprover/monomial"
 	"geoprover/poly"
+	"geoprover/polytext"
+	"geoprover/pseudo"
 	"geoprover/rational"
 )
 
@@ -48,4 +50,33 @@ func TestPoly(t *testing.T) {
 		s.add(p, []api.Term(p))
 	}
 	checkAll(t, s, poly.Right, poly.Norm)
+}
+
+func TestPolytext(t *testing.T) {
+	s := samples{}
+	s.add("", "0", "-1/2*x^2*y + 3 - y", "y*x + 2*x*y - x^0", "x + ", "x+1", "1/0", "z", "x^1048577", "12345678901234567890123/7*y")
+	s.add([]string(nil), []string{"x", "y"}, []string{"x", "y", "x"}, []string{"x", "1"}, []string{"z", "y", "x"})
+	for _, p := range terms(t) {
+		s.add(p)
+	}
+	s.add(api.Poly{{Mono: api.Mono{0}}})
+	read := func(text string, names []string) (api.Poly, api.Errno) { // without the offset, which belongs to the error
+		p, _, e := polytext.Read(text, names)
+		return p, e
+	}
+	offset := func(text string, names []string) int {
+		_, at, _ := polytext.Read(text, names)
+		return at
+	}
+	checkAll(t, s, polytext.Print, read, offset)
+}
+
+func TestPseudo(t *testing.T) {
+	s := samples{}
+	s.add(-1, 0, 1, 2, 63, 64)
+	polys := terms(t)
+	for i, p := range polys {
+		s.add(p, poly.Mul(p, polys[(i+1)%len(polys)]), polys[i:], polys[:i])
+	}
+	checkAll(t, s, pseudo.Main, pseudo.DegreeIn, pseudo.Coefs, pseudo.Join, pseudo.Initial, pseudo.Divide, pseudo.Exact, pseudo.Primitive)
 }

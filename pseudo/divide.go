@@ -1,0 +1,62 @@
+package pseudo
+
+import (
+	"slices"
+
+	"geoprover/api"
+	"geoprover/monomial"
+	"geoprover/poly"
+	"geoprover/rational"
+)
+
+// Divide divides f by g as polynomials in v. Each step multiplies by the coefficient c of the highest power of v in g, so that c^power f = q g + r. It returns the first of these errors: ErrRange unless v is from 0 to MaxVars - 1; ErrZero if g is 0; ErrLarge as soon as q or r, which is f at first, is large.
+func Divide(f, g api.Poly, v int) (q, r api.Poly, power int, e api.Errno) {
+	switch {
+	case v < 0 || v >= api.MaxVars:
+		return nil, nil, 0, api.ErrRange
+	case len(g) == 0:
+		return nil, nil, 0, api.ErrZero
+	case large(f):
+		return nil, nil, 0, api.ErrLarge
+	}
+	r, g = poly.Norm(f), poly.Norm(g)
+	degree := DegreeIn(g, v)
+	times := multiplier(part(g, v, degree, degree))
+	tail := below(g, v, degree)
+	for n := DegreeIn(r, v); len(r) > 0 && n >= degree; n = DegreeIn(r, v) {
+		b := part(r, v, n, degree)
+		q = poly.Add(times(q), b)
+		r = poly.Sub(times(below(r, v, n)), poly.Mul(b, tail)) // the terms with v^n cancel
+		power++
+		if large(q) || large(r) {
+			return nil, nil, 0, api.ErrLarge
+		}
+	}
+	return q, r, power, api.OK
+}
+
+// below returns the terms of p in which the exponent of v is less than n, in the memory of p.
+func below(p api.Poly, v, n int) api.Poly {
+	var terms api.Poly
+	for _, t := range p {
+		if monomial.Exp(t.Mono, v) < n {
+			terms = append(terms, t)
+		}
+	}
+	return terms
+}
+
+// multiplier returns a function that multiplies polynomials by c, which is often 1: then it returns the polynomials themselves.
+func multiplier(c api.Poly) func(p api.Poly) api.Poly {
+	if poly.Equal(c, poly.Const(rational.Of(1))) {
+		return func(p api.Poly) api.Poly { return p }
+	}
+	return func(p api.Poly) api.Poly { return poly.Mul(c, p) }
+}
+
+// large reports whether p has more than MaxTerms terms, or an exponent greater than MaxExp.
+func large(p api.Poly) bool {
+	return len(p) > api.MaxTerms || slices.ContainsFunc(p, func(t api.Term) bool {
+		return len(t.Mono) > 0 && slices.Max(t.Mono) > api.MaxExp
+	})
+}
