@@ -1,12 +1,11 @@
 package pseudo
 
 import (
-	"slices"
-
 	"geoprover/api"
 	"geoprover/monomial"
 	"geoprover/poly"
 	"geoprover/rational"
+	"geoprover/sums"
 )
 
 // Divide divides f by g as polynomials in v. Each step multiplies by the coefficient c of the highest power of v in g, so that c^power f = q g + r. It returns the first of these errors: ErrRange unless v is from 0 to MaxVars - 1; ErrZero if g is 0; ErrLarge as soon as q or r, which is f at first, is large.
@@ -16,7 +15,7 @@ func Divide(f, g api.Poly, v int) (q, r api.Poly, power int, e api.Errno) {
 		return nil, nil, 0, api.ErrRange
 	case len(g) == 0:
 		return nil, nil, 0, api.ErrZero
-	case large(f):
+	case sums.Large(f):
 		return nil, nil, 0, api.ErrLarge
 	}
 	r, g = poly.Norm(f), poly.Norm(g)
@@ -28,7 +27,7 @@ func Divide(f, g api.Poly, v int) (q, r api.Poly, power int, e api.Errno) {
 		q = poly.Add(times(q), b)
 		r = poly.Sub(times(below(r, v, n)), poly.Mul(b, tail)) // the terms with v^n cancel
 		power++
-		if large(q) || large(r) {
+		if sums.Large(q) || sums.Large(r) {
 			return nil, nil, 0, api.ErrLarge
 		}
 	}
@@ -52,11 +51,4 @@ func multiplier(c api.Poly) func(p api.Poly) api.Poly {
 		return func(p api.Poly) api.Poly { return p }
 	}
 	return func(p api.Poly) api.Poly { return poly.Mul(c, p) }
-}
-
-// large reports whether p has more than MaxTerms terms, or an exponent greater than MaxExp.
-func large(p api.Poly) bool {
-	return len(p) > api.MaxTerms || slices.ContainsFunc(p, func(t api.Term) bool {
-		return len(t.Mono) > 0 && slices.Max(t.Mono) > api.MaxExp
-	})
 }

@@ -4,10 +4,12 @@ import (
 	"testing"
 
 	"geoprover/api"
+	"geoprover/groebner"
 	"geoprover/ideal"
 	"geoprover/matrix"
 	"geoprover/poly"
 	"geoprover/rational"
+	"geoprover/triangular"
 )
 
 // cells returns the numbers with these texts.
@@ -64,4 +66,40 @@ func TestIdeal(t *testing.T) {
 		api.Certificate{Factors: []api.Poly{nil}, Powers: []int{1}, Power: 1},
 	)
 	checkAll(t, s, ideal.Combine, ideal.Right, ideal.Product, ideal.Check, ideal.Cancel, ideal.Minimal, ideal.Same)
+}
+
+// lists returns lists of polynomials, some of which are chains.
+func lists(t *testing.T) [][]api.Poly {
+	polys := terms(t)
+	x, y := poly.Var(0), poly.Var(1)
+	return [][]api.Poly{
+		nil, {}, polys[:2], polys[3:4], {x}, {x, y}, {y, x}, {x, x, nil}, {poly.Add(y, x), poly.Sub(y, x)}, polys[4:6], polys[6:], polys[4:],
+		{polys[5], polys[6]}, {poly.Mul(x, y), poly.Mul(polys[4], polys[7])}, {x, polys[4]}, {poly.Mul(polys[5], polys[7]), polys[6]},
+	}
+}
+
+func TestTriangular(t *testing.T) {
+	s := samples{}
+	for _, l := range lists(t) {
+		s.add(l)
+	}
+	polys := terms(t)
+	for i, p := range polys {
+		s.add(p, poly.Mul(p, polys[(i+1)%len(polys)]))
+	}
+	s.add(api.Poly{{Mono: api.Mono{1}}})
+	checkAll(t, s, triangular.Make, triangular.Right, triangular.Reduce, triangular.Initials)
+}
+
+func TestGroebner(t *testing.T) {
+	s := samples{}
+	s.add(api.Lex, api.DegLex, 2)
+	for _, l := range lists(t) {
+		s.add(l)
+	}
+	polys := terms(t)
+	for i, p := range polys {
+		s.add(p, poly.Mul(p, polys[(i+1)%len(polys)]))
+	}
+	checkAll(t, s, groebner.Divide, groebner.Pair, groebner.Basis, groebner.Reduced, groebner.Member)
 }

@@ -95,6 +95,71 @@ func TestNextRandom(t *testing.T) {
 	}
 }
 
+func TestAdd(t *testing.T) {
+	r := newSource()
+	for range rounds {
+		want := randomPoly(r, 4, 3)
+		s := sums.Of(want, nil, nil)
+		for range r.Intn(5) {
+			a, b := randomPoly(r, 5, 2), randomPoly(r, 5, 2)
+			s.Add(a, b)
+			want = poly.Add(want, poly.Mul(a, b))
+			if r.Intn(4) == 0 {
+				s.Add(poly.Neg(b), a)
+				want = poly.Sub(want, poly.Mul(a, b))
+			}
+		}
+		expect(t, "the sum", all(s), want)
+	}
+}
+
+func TestWithin(t *testing.T) {
+	for limit, want := range map[int]bool{0: false, 3: false, 4: true, 5: true} {
+		got, ok := sums.Of(read("x"), read("x + 1"), read("y + z")).Within(limit)
+		if ok != (limit == 5) || !ok && len(got) > 0 {
+			t.Errorf("the sum within %d is %v, %t", limit, got, ok)
+		}
+		got, ok = sums.Of(nil, read("x + 1"), read("y + z")).Within(limit)
+		if ok != want || !ok && len(got) > 0 {
+			t.Errorf("the product within %d is %v, %t", limit, got, ok)
+		}
+	}
+	if got, ok := sums.Of(read("x"), read("x"), read("-1")).Within(0); !ok || len(got) > 0 {
+		t.Errorf("0 within 0 is %v, %t", got, ok)
+	}
+}
+
+func TestSmall(t *testing.T) {
+	high := func(exp int) api.Poly { return api.Poly{{Coef: rational.Of(1), Mono: api.Mono{1, exp}}} }
+	for what, x := range map[string]struct {
+		p, a, b api.Poly
+		want    bool
+	}{
+		"0":                     {nil, nil, nil, true},
+		"terms of p":            {dense(0, api.MaxTerms), nil, nil, true},
+		"many terms of p":       {dense(0, api.MaxTerms+1), nil, nil, false},
+		"terms":                 {nil, dense(0, api.MaxTerms/2), read("y + z"), true},
+		"many terms":            {nil, dense(0, api.MaxTerms/2+1), read("y + z"), false},
+		"many terms that go":    {nil, dense(0, api.MaxTerms+1), read("x - 1"), true},
+		"exponents":             {nil, high(api.MaxExp - 1), read("y"), true},
+		"great exponents":       {nil, high(api.MaxExp), read("y + 1"), false},
+		"great exponents of p":  {high(api.MaxExp + 1), nil, nil, false},
+		"great exponents gone":  {high(api.MaxExp + 1), high(api.MaxExp), read("-y"), true},
+		"constant":              {read("1"), nil, nil, true},
+		"great last exponent":   {nil, high(api.MaxExp), read("z^2 + y"), false},
+		"great first exponents": {nil, high(api.MaxExp), read("y*z^2 + 1"), false},
+	} {
+		got, ok := sums.Of(x.p, x.a, x.b).Small()
+		if ok != x.want || !ok && len(got) > 0 {
+			t.Errorf("the sum (%s) is %v, %t", what, got[:min(len(got), 3)], ok)
+		}
+		whole := poly.Add(x.p, poly.Mul(x.a, x.b))
+		if sums.Large(whole) == x.want || ok && !poly.Equal(got, whole) {
+			t.Errorf("the sum (%s) is wrong, or large", what)
+		}
+	}
+}
+
 // What is not taken is not computed: this product has 10^10 terms.
 func TestNextFirst(t *testing.T) {
 	s := sums.Of(nil, dense(0, 100000), dense(1, 100000))
