@@ -7,6 +7,8 @@ import (
 	"geoprover/api"
 	"geoprover/ast"
 	"geoprover/lexer"
+	"geoprover/parser"
+	"geoprover/printer"
 )
 
 func TestLexer(t *testing.T) {
@@ -63,4 +65,49 @@ func TestAst(t *testing.T) {
 		return []int{at, int(e)}
 	}
 	checkAll(t, s, ast.Sort, ast.Params, ast.Word, ast.Kind, ast.Check, program, ast.Equal, ast.EqualExpr, ast.Names, ast.Depth, ast.Size)
+}
+
+// sources returns sources of the construction language, some of which are not right.
+func sources() []any {
+	return []any{
+		"", "# a", "points A, B;", "points A, B;\nC := divide(A, B, -2/4);\nline l := line(A, C); prove ratio(A, B, A, C, 4);", "P := on(circle(A, B)); prove same(A, P);",
+		"A", "foot(A, line(B, C))", "divide(A, B, -0)", "divide(A, B, 1/0)", "points A, line;", "prove line(A, B);", "C := divide(A, B, 1/0);", "same(A, C)", "$",
+		"collinear(A, B, A)", "angle(A, B, A, B, A, B)", "angle(A, B, A, B, A, B, A, B)", "ratio(A, B, A, B, -2/4)", "ratio(A, B, A, B, 1/0)", strings.Repeat(" ", api.MaxSource+1),
+	}
+}
+
+func TestParser(t *testing.T) {
+	s := samples{}
+	s.add(sources()...)
+	s.add([]string(nil), []string{"A", "B"}, []string{"B", "A", "C", "A"})
+	program := func(source string) (api.Program, api.Errno) { // without the offset, which belongs to the error
+		p, _, e := parser.Program(source)
+		return p, e
+	}
+	expr := func(source string) (api.Expr, api.Errno) {
+		x, _, e := parser.Expr(source)
+		return x, e
+	}
+	fact := func(source string, names []string) (api.Fact, api.Errno) {
+		f, _, e := parser.Fact(source, names)
+		return f, e
+	}
+	offsets := func(source string, names []string) []int {
+		_, first, _ := parser.Program(source)
+		_, second, _ := parser.Expr(source)
+		_, third, _ := parser.Fact(source, names)
+		return []int{first, second, third}
+	}
+	checkAll(t, s, program, expr, fact, offsets)
+}
+
+func TestPrinter(t *testing.T) {
+	s := samples{}
+	for _, e := range trees(t) {
+		s.add(e)
+		s.add(api.Program{Stmts: []api.Stmt{{Kind: api.StPoints, Names: []string{"A", "B"}}, {Kind: api.StPoint, Names: []string{"M"}, Expr: e}}})
+		s.add(api.Program{Stmts: []api.Stmt{{Kind: api.StProve, Expr: e}}})
+	}
+	s.add(api.Program{})
+	checkAll(t, s, printer.Program, printer.Expr)
 }
