@@ -7,8 +7,10 @@ import (
 	"geoprover/api"
 	"geoprover/ast"
 	"geoprover/lexer"
+	"geoprover/lower"
 	"geoprover/parser"
 	"geoprover/printer"
+	"geoprover/scope"
 )
 
 func TestLexer(t *testing.T) {
@@ -110,4 +112,64 @@ func TestPrinter(t *testing.T) {
 	}
 	s.add(api.Program{})
 	checkAll(t, s, printer.Program, printer.Expr)
+}
+
+// programs returns programs with constructions of all sorts. Some of them are not right, and the figures of some are too large.
+func programs(t *testing.T) []api.Program {
+	t.Helper()
+	l := []api.Program{{}, {Stmts: []api.Stmt{{Kind: api.StPoints, Names: []string{"A", "B"}}, {}, {Kind: api.StProve, Names: []string{"A"}, Expr: trees(t)[9]}}}}
+	for _, source := range []string{
+		"points A, B, C;",
+		"points A, B; prove same(A, X); points A, A;",
+		"points A, B, C; line l := bisector(A, midpoint(B, C)); circle c := circum(A, B, C); D := on(c); E := divide(D, on(l), -2/3); prove ratio(A, E, B, D, 7/2); prove angle(A, B, C, B, A, turn(A, D));",
+		"points A, B, C; line l := parallel(A, line(B, C)); line m := perpendicular(reflect(A, B), l); D := meet(l, m); prove parallel(l, m); prove collinear(A, B, C);",
+		"points A, B; " + strings.Repeat("prove same(A, B);", api.MaxGoals+1),
+		"points A, B; C := " + strings.Repeat("apex(", 8) + "A" + strings.Repeat(", midpoint(A, apex(A, midpoint(B, apex(A, B)))))", 8) + ";",
+	} {
+		p, at, e := parser.Program(source)
+		if e != api.OK {
+			t.Fatalf("the program %q has the error %d at %d", source, e, at)
+		}
+		l = append(l, p)
+	}
+	return l
+}
+
+func TestScope(t *testing.T) {
+	s := samples{}
+	for _, p := range programs(t) {
+		s.add(p)
+	}
+	s.add("", "A", "B", "l", "E", "X", "on", "1")
+	for sort := -1; sort < 6; sort++ {
+		s.add(sort)
+	}
+	program := func(p api.Program) []int {
+		at, e := scope.Check(p)
+		return []int{at, int(e)}
+	}
+	checkAll(t, s, program, scope.Defined, scope.Uses, scope.Unused, scope.Depends, scope.Rename)
+}
+
+func TestLower(t *testing.T) {
+	s := samples{}
+	figure := func(p api.Program) (api.Figure, api.Errno) { // without the index, which belongs to the error
+		f, _, e := lower.Figure(p)
+		return f, e
+	}
+	for _, p := range programs(t) {
+		s.add(p)
+		f, _ := figure(p)
+		s.add(f)
+	}
+	s.add(api.Figure{Steps: []api.Step{{Kind: 77, Args: []int{3, -1}, Ratio: number(t, "1/2")}, {Point: "A", Args: []int{1, 0}}}, Goals: []api.Fact{{Args: []int{0, 9}, Ratio: number(t, "2")}}})
+	s.add("", "A", "$3", "X", []int(nil), []int{1, 0, 1}, []int{4, 9, -1})
+	for i := -1; i < 16; i++ {
+		s.add(i)
+	}
+	at := func(p api.Program) int {
+		_, at, _ := lower.Figure(p)
+		return at
+	}
+	checkAll(t, s, lower.Arity, lower.Right, figure, at, lower.Names, lower.Find, lower.Needs, lower.Prune)
 }
