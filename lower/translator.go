@@ -3,6 +3,7 @@ package lower
 import (
 	"geoprover/api"
 	"geoprover/ast"
+	"geoprover/fresh"
 	"geoprover/rational"
 )
 
@@ -45,7 +46,7 @@ func (t translator) goal(x api.Expr) api.Fact {
 		n = []int{n[1], n[0], n[1], n[2], n[4], n[3], n[4], n[5]}
 	}
 	kind := x.Kind - api.ExIsCollinear + api.FactCollinear // goals and facts stand in the same order
-	return api.Fact{Kind: kind, Args: n, Ratio: freshRat(x.Ratio)}
+	return api.Fact{Kind: kind, Args: n, Ratio: fresh.Rat(x.Ratio)}
 }
 
 // points returns the points that an expression of a point, a line or a circle yields.
@@ -101,7 +102,7 @@ func (t translator) step(x api.Expr) api.Step {
 	case api.ExMidpoint:
 		return divide(n, rational.Frac(1, 2))
 	case api.ExDivide:
-		return divide(n, freshRat(x.Ratio))
+		return divide(n, fresh.Rat(x.Ratio))
 	case api.ExReflect:
 		return divide(n, rational.Of(2))
 	case api.ExOn:

@@ -4,6 +4,7 @@ import (
 	"slices"
 
 	"geoprover/api"
+	"geoprover/fresh"
 	"geoprover/rational"
 )
 
@@ -51,7 +52,7 @@ func Solve(m api.Matrix, b []api.Rat) ([]api.Rat, api.Errno) {
 	}
 	x := zeros(m.Cols)
 	for n, k := range pivots {
-		x[k] = freshRat(rows[n][m.Cols])
+		x[k] = fresh.Rat(rows[n][m.Cols])
 	}
 	return x, api.OK
 }

@@ -4,6 +4,7 @@ import (
 	"slices"
 
 	"geoprover/api"
+	"geoprover/fresh"
 	"geoprover/rational"
 )
 
@@ -25,7 +26,7 @@ func Reduce(m api.Matrix) (weights []api.Rat, forms api.Matrix, e api.Errno) {
 	}
 	rows := make([][]api.Rat, len(squares))
 	for n, s := range squares {
-		weights = append(weights, freshRat(s.weight))
+		weights = append(weights, fresh.Rat(s.weight))
 		rows[n] = s.form
 	}
 	return weights, ofRows(m.Cols, rows), api.OK

@@ -89,7 +89,7 @@ func scaling(a api.Rat) func(x api.Rat) api.Rat {
 func clone(p api.Poly) api.Poly {
 	c := make(api.Poly, len(p))
 	for i, t := range p {
-		c[i] = fresh(t)
+		c[i] = freshTerm(t)
 	}
 	return c
 }

@@ -4,6 +4,7 @@ import (
 	"slices"
 
 	"geoprover/api"
+	"geoprover/fresh"
 	"geoprover/integer"
 	"geoprover/monomial"
 	"geoprover/natural"
@@ -28,7 +29,7 @@ func horner(p api.Poly, v int, values []api.Rat) api.Rat {
 		v--
 	}
 	if v < 0 {
-		return fresh(p[0]).Coef
+		return fresh.Rat(p[0].Coef)
 	}
 	value := rational.Of(0)
 	for len(p) > 0 {

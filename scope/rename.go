@@ -4,6 +4,7 @@ import (
 	"slices"
 
 	"geoprover/api"
+	"geoprover/fresh"
 )
 
 // renaming replaces a name by another one. What its methods return is new memory.
@@ -35,8 +36,7 @@ func (r renaming) expr(x api.Expr) api.Expr {
 	if x.Kind == api.ExName {
 		x.Name = r.name(x.Name)
 	}
-	x.Ratio.Num.Abs = slices.Clone(x.Ratio.Num.Abs)
-	x.Ratio.Den = slices.Clone(x.Ratio.Den)
+	x.Ratio = fresh.Rat(x.Ratio)
 	x.Args = slices.Clone(x.Args)
 	for i, a := range x.Args {
 		x.Args[i] = r.expr(a)
