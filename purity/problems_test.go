@@ -1,12 +1,16 @@
 package purity_test
 
 import (
+	"math"
 	"testing"
 
 	"geoprover/api"
 	"geoprover/fresh"
 	"geoprover/instance"
+	"geoprover/poly"
 	"geoprover/problem"
+	"geoprover/refute"
+	"geoprover/wu"
 )
 
 // problems returns the problems of figures, and others.
@@ -106,4 +110,39 @@ func TestFresh(t *testing.T) {
 	}
 	s.add(number(t, "0"), number(t, "-12345678901234567890/7"), api.Rat{})
 	checkAll(t, s, fresh.Rat, fresh.Rats, fresh.Figure)
+}
+
+func TestRefute(t *testing.T) {
+	s := samples{}
+	for _, f := range figures(t) {
+		s.add(f)
+	}
+	for _, p := range problems(t) {
+		s.add(p)
+	}
+	s.add(-1, 0, 1, 2, 40, api.MaxTries+1, math.MaxInt)
+	checkAll(t, s, refute.Value, refute.Nth, refute.Search, refute.Sample)
+}
+
+func TestWu(t *testing.T) {
+	s := samples{}
+	for _, p := range problems(t) {
+		s.add(p)
+	}
+	x, y, z := poly.Var(0), poly.Var(1), poly.Var(2)
+	one := poly.Const(number(t, "1"))
+	hyps := []api.Poly{poly.Sub(poly.Mul(x, y), one), poly.Sub(z, y), nil, poly.Add(z, y)}
+	s.add(
+		api.Problem{Hyps: hyps[:3], Goals: [][]api.Poly{{poly.Mul(z, hyps[0]), poly.Sub(y, z), nil}, {y, hyps[0]}, {poly.Const(number(t, "1/2"))}}},
+		api.Problem{Hyps: hyps, Goals: [][]api.Poly{{x}}}, // without a common zero
+		api.Problem{Hyps: hyps[1:3], Goals: [][]api.Poly{{poly.Mul(y, hyps[1])}, {{{Mono: api.Mono{-1}}}}}},
+		api.Problem{Goals: [][]api.Poly{{nil, nil}, {x, hyps[1]}, nil}},
+	)
+	for _, f := range figures(t) {
+		f.Goals = []api.Fact{{Kind: api.FactSame, Args: []int{0, 0}}, {Kind: api.FactCollinear, Args: []int{1, 2, 3}}, {Kind: api.FactPerpendicular, Args: []int{0, 3, 1, 2}}}
+		p, _ := problem.Make(f)
+		s.add(p)
+	}
+	s.add(-1, 0, 1, 2, 3)
+	checkAll(t, s, wu.Chain, wu.Rest, wu.Prove)
 }
